@@ -14,19 +14,7 @@ func TestCompareESI(t *testing.T) {
 		{}, {9: 1}, {9: 2}, {9: 0x7f}, {9: 0x80}, {9: 0xff}, {8: 1}, {8: 1, 9: 7},
 		{5: 1}, {1: 2, 2: 9}, {1: 3}, {0: 1}, {0: 1, 9: 1}, {3, 0, 0, 0, 0, 0, 0, 0, 0, 1}, {0x80}, {0xff},
 	}
-	for i, a := range ascending {
-		for j, b := range ascending {
-			want := 0
-			if i < j {
-				want = -1
-			} else if i > j {
-				want = 1
-			}
-			if got := addr.CompareESI(a, b); got != want {
-				t.Errorf("CompareESI(%v, %v) = %d", a, b, got)
-			}
-		}
-	}
+	checkOrder(t, ascending, addr.CompareESI)
 }
 
 // P1.2: each byte counts, and an earlier one more than all later ones.

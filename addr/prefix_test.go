@@ -1,6 +1,7 @@
 package addr_test
 
 import (
+	"cmp"
 	"math"
 	"testing"
 
@@ -46,6 +47,18 @@ func clean(p api.Prefix) api.Prefix {
 		q.IP |= bitOf(p.IP, i) << (31 - i)
 	}
 	return q
+}
+
+// checkOrder compares each value with each other one; they are in ascending order.
+func checkOrder[T any](t *testing.T, ascending []T, compare func(a, b T) int) {
+	t.Helper()
+	for i, a := range ascending {
+		for j, b := range ascending {
+			if got := compare(a, b); got != cmp.Compare(i, j) {
+				t.Errorf("%v compared with %v gives %d", a, b, got)
+			}
+		}
+	}
 }
 
 // P1.2: the edges that the chapter names, in plain numbers.
@@ -135,19 +148,7 @@ func TestComparePrefix(t *testing.T) {
 		{IP: 0x0a010000, Len: 16}, {IP: 0x0a010000, Len: 17}, {IP: 0x0a020000, Len: 0},
 		{IP: 0x7fffffff, Len: 33}, {IP: 0x80000000, Len: 1}, {IP: math.MaxUint32, Len: -5}, {IP: math.MaxUint32, Len: 40},
 	}
-	for i, p := range ascending {
-		for j, q := range ascending {
-			want := 0
-			if i < j {
-				want = -1
-			} else if i > j {
-				want = 1
-			}
-			if got := addr.ComparePrefix(p, q); got != want {
-				t.Errorf("ComparePrefix(%v, %v) = %d", p, q, got)
-			}
-		}
-	}
+	checkOrder(t, ascending, addr.ComparePrefix)
 }
 
 // P1.6: Covers is reflexive for valid prefixes, for no other ones, and transitive.
